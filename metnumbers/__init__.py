@@ -1,0 +1,1 @@
+"""Metnumbers: meetings told by numbers alone."""
