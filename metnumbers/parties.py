@@ -1,9 +1,10 @@
 """Parties: what their persons tell, which pairs are known to have met and which not."""
 
-from metnumbers.errors import Mismatch, NoPair, NoParty
+from metnumbers.errors import Mismatch, NoPair, NoParty, TooMany
 from metnumbers.names import is_integer
 
 MOST_PERSONS = 8
+MOST_COUNTED = 6
 GREATEST_NUMBER = 20
 
 
@@ -22,6 +23,13 @@ def are_numbers(thing):
 def is_person(thing, many):
     """Tell whether any object is one of so many persons."""
     return is_integer(thing) and 0 <= thing < many
+
+
+def are_persons(thing, many):
+    """Tell whether any object is an ascending tuple of different ones of so many persons."""
+    if not isinstance(thing, tuple) or not all([is_person(person, many) for person in thing]):
+        return False
+    return all([one < other for one, other in zip(thing, thing[1:])])
 
 
 def is_pair(thing, many):
@@ -75,6 +83,12 @@ def need_person(party, person):
     """Raise NoParty if this is no party, then Mismatch if any object is none of its persons."""
     if not is_person(person, persons(party)):
         raise Mismatch("this is none of the party's persons")
+
+
+def need_few(party):
+    """Raise NoParty if this is no party, then TooMany if it has more persons than meetings are counted of."""
+    if persons(party) > MOST_COUNTED:
+        raise TooMany(MOST_COUNTED)
 
 
 def persons(party):

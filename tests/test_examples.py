@@ -19,6 +19,38 @@ EXAMPLES = {
 >>> [two_sided((1, 1), (2,)), look_alike(two_sided((1, 1), (2,))), with_apart(party, (1, 2))[2]]
 [((1, 1, 2), (), ((0, 1),)), [(0, 1)], ((0, 3), (1, 2))]
 ''',
+    "meetings": '''
+>>> from metnumbers.meetings import how_many, how_many_with, is_meeting, least_meeting, meetings
+>>> party = ((1, 1, 1, 1), (), ())
+>>> [least_meeting(party), list(meetings(party)), how_many(party), how_many_with(party, (0, 2)), is_meeting(party, ((0, 3), (1, 2)))]
+[((0, 1), (2, 3)), [((0, 1), (2, 3)), ((0, 2), (1, 3)), ((0, 3), (1, 2))], 3, 1, True]
+>>> [least_meeting(((1, 1, 1), (), ())), least_meeting(((1, None), (), ())), how_many(((None, None, 1), (), ()))]
+[None, ((0, 1),), 4]
+''',
+    "bars": '''
+>>> from metnumbers.bars import bar_of, bars_it, odd_lots, rows, slack
+>>> party = ((3, 1, 1, 0), (), ())
+>>> [slack(party, ((), (0,))), bars_it(party, ((), (0,))), slack(party, ((), ())), odd_lots(party, ((), ())), rows(party)]
+[-1, True, -1, [(0, 1, 2, 3)], [(1, 3, 2), (2, 4, 3), (3, 5, 6), (4, 5, 12)]]
+>>> [slack(((2, 0), (), ()), ((), (0,))), bar_of(((1, 1), (), ())), bars_it(((1, None, 1), (), ((0, 1), (1, 2))), ((), (0,)))]
+[-2, None, False]
+''',
+    "sure": '''
+>>> from metnumbers.sure import is_settled, only_meeting, paper_of, shows_state, state_of, states
+>>> star = ((3, 1, None, 1), (), ())
+>>> [state_of(star, (0, 2)), state_of(star, (1, 2)), only_meeting(star), is_settled(((1, 1, 1, 1), (), ()))]
+['met', 'apart', ((0, 1), (0, 2), (0, 3)), False]
+>>> [shows_state(((1, 1, 1, 1), (), ()), (0, 1), ("open", ((0, 1), (2, 3)), ((0, 2), (1, 3)))), states(((1, 1, 0), (), ()))]
+[True, {(0, 1): 'met', (0, 2): 'apart', (1, 2): 'apart'}]
+''',
+    "pieces": '''
+>>> from metnumbers.pieces import cut, joined_meeting, one_paper, parted_meeting, partings, pieces, shows_one, surely_one
+>>> pairs, ring = ((1, 1, 1, 1), (), ()), ((2, 2, 2), (), ())
+>>> [partings(ring), cut(pairs, (0, 1)), pieces(pairs, ((0, 1), (2, 3))), parted_meeting(pairs), joined_meeting(pairs)]
+[[(0,), (0, 1), (0, 2)], ((1, 1, 1, 1), (), ((0, 2), (0, 3), (1, 2), (1, 3))), [(0, 1), (2, 3)], ((0, 1), (2, 3)), None]
+>>> [surely_one(ring), one_paper(pairs), shows_one(ring, [((0,), ((), (0,))), ((0, 1), ((), (2,))), ((0, 2), ((), (1,)))])]
+[True, None, True]
+''',
 }
 README = pathlib.Path(__file__).parent.parent / "README.md"
 

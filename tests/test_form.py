@@ -41,6 +41,12 @@ INTERFACE = {
         "is_party", "need_party", "persons", "free_pairs", "needs", "with_met", "with_apart", "with_free", "told",
         "two_sided", "join", "look_alike",
     ],
+    "meetings": ["is_meeting", "least_meeting", "meetings", "how_many", "how_many_with"],
+    "bars": ["is_bar", "slack", "odd_lots", "bars_it", "bar_of", "rows"],
+    "sure": ["state_of", "states", "paper_of", "shows_state", "is_settled", "only_meeting"],
+    "pieces": [
+        "partings", "cut", "pieces", "surely_one", "one_paper", "shows_one", "parted_meeting", "joined_meeting",
+    ],
 }
 
 

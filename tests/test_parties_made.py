@@ -6,22 +6,10 @@ import unittest
 from metnumbers.parties import (
     free_pairs, is_party, join, look_alike, needs, persons, told, two_sided, with_apart, with_free, with_met,
 )
+from tests.plain import small_parties
 
 PARTY = ((2, 1, 1, None), ((0, 1),), ((0, 3),))
 EIGHT = ((None,) * 8, (), ())
-
-
-def small_parties():
-    """Return all parties of one to three persons who tell 0, 2 or nothing."""
-    parties = []
-    for many in range(1, 4):
-        pairs = list(itertools.combinations(range(many), 2))
-        for numbers in itertools.product((0, 2, None), repeat=many):
-            for kinds in itertools.product((0, 1, 2), repeat=len(pairs)):
-                met = tuple(pair for pair, kind in zip(pairs, kinds) if kind == 1)
-                apart = tuple(pair for pair, kind in zip(pairs, kinds) if kind == 2)
-                parties.append((numbers, met, apart))
-    return parties
 
 
 class PersonsTest(unittest.TestCase):
@@ -72,7 +60,7 @@ class FactsTest(unittest.TestCase):
         self.assertEqual(with_free(known, (1, 3)), (numbers, known[1], ((0, 3), (2, 3))))
 
     def test_facts_of_small_parties(self):
-        for party in small_parties():
+        for party in small_parties((0, 2, None)):
             numbers, met, apart = party
             for pair in itertools.combinations(range(len(numbers)), 2):
                 with self.subTest(party=party, pair=pair):
@@ -149,7 +137,7 @@ class JoinTest(unittest.TestCase):
             self.assertEqual(party[2], tuple(itertools.product(range(many), range(many, 8))))
 
     def test_small_parties(self):
-        parties = small_parties()
+        parties = small_parties((0, 2, None))
         for one, other in zip(parties, reversed(parties)):
             start, many = len(one[0]), len(one[0]) + len(other[0])
             party = join(one, other)
@@ -184,7 +172,7 @@ class LookAlikeTest(unittest.TestCase):
         self.assertEqual(look_alike(((1, 1, 1, 1), ((0, 3),), ((1, 2),))), [(0, 3), (1, 2)])
 
     def test_small_parties(self):
-        for party in small_parties():
+        for party in small_parties((0, 2, None)):
             numbers, met, apart = party
             right = []
             for one, other in itertools.combinations(range(len(numbers)), 2):

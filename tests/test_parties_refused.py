@@ -1,12 +1,12 @@
 """What the functions of parties refuse, in which order, and that it stays as it was."""
 
-import copy
 import unittest
 
 from metnumbers.errors import Mismatch, NoPair, NoParty
 from metnumbers.parties import (
     free_pairs, join, look_alike, need_party, needs, persons, told, two_sided, with_apart, with_free, with_met,
 )
+from tests.cases import Case
 from tests.odd_things import odd_things
 
 PARTY = ((2, 1, 1, None), ((0, 1),), ((0, 3),))
@@ -19,16 +19,7 @@ NO_PAIRS = [
 ]
 
 
-class RefusedCase(unittest.TestCase):
-    def assert_refused(self, error, function, *things):
-        ahead = copy.deepcopy(things)
-        with self.assertRaises(error) as caught:
-            function(*things)
-        self.assertIs(type(caught.exception), error)
-        self.assertEqual(things, ahead)
-
-
-class RefusedTest(RefusedCase):
+class RefusedTest(Case):
     def test_no_party(self):
         for thing in [*odd_things(), NO_PARTY, [*PARTY], list(PARTY[:2]), PARTY[0], PARTY + ((),)]:
             for function in OF_A_PARTY:
@@ -96,7 +87,7 @@ class RefusedTest(RefusedCase):
         self.assert_refused(NoParty, join, ((1,) * 8, (), ()), ((1,) * 8, (), ()))
 
 
-class OrderTest(RefusedCase):
+class OrderTest(Case):
     def test_party_ahead_of_pair(self):
         for function in OF_A_PAIR:
             for thing in NO_PAIRS:

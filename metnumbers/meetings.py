@@ -1,0 +1,48 @@
+"""The meetings of a party: which objects they are, the least one, all of them, how many."""
+
+from metnumbers.errors import NoFit
+from metnumbers.parties import are_pairs, count_with, need_few, need_pair, persons
+from metnumbers.ways import Ways
+
+
+def is_meeting(party, thing):
+    """Tell whether any object is a meeting of a party."""
+    if not are_pairs(thing, persons(party)):
+        return False
+    numbers, met, apart = party
+    if not all([pair in thing for pair in met]) or any([pair in thing for pair in apart]):
+        return False
+    return all([number is None or count_with(thing, person) == number for person, number in enumerate(numbers)])
+
+
+def need_fit(party, meeting):
+    """Raise NoParty if this is no party, then NoFit if any object is no meeting of it."""
+    if not is_meeting(party, meeting):
+        raise NoFit("this is no meeting of the party")
+
+
+def meetings(party):
+    """Generate all meetings of a party, ascending."""
+    ways = Ways(party)
+    yield from ways.going_on(0, ways.numbers, ())
+
+
+def least_meeting(party):
+    """Return the least meeting of a party, or None if there is none."""
+    for meeting in meetings(party):
+        return meeting
+    return None
+
+
+def how_many(party):
+    """Return the number of meetings of a party of up to six persons."""
+    need_few(party)
+    return Ways(party).total()
+
+
+def how_many_with(party, pair):
+    """Return the number of meetings of a party of up to six persons that have a pair."""
+    need_pair(party, pair)
+    need_few(party)
+    # A pair that is apart is none of those that a meeting can have.
+    return Ways(party).having().get(pair, 0)
