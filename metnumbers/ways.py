@@ -16,7 +16,7 @@ class Ways:
 
     At a place all pairs ahead of it are decided. What is left tells of each person how many of the pairs from there on
     have to be taken. Many ways lead to the same place with the same numbers left, so what follows is counted only once:
-    there are some thousand such states at the most, however many meetings there are.
+    there are only thousands of such states, also where there are millions of meetings.
     """
 
     def __init__(self, party):
