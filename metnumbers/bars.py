@@ -1,20 +1,25 @@
 """The bars of a party: which objects they are, their slack, and those that show that there is no meeting."""
 
 from metnumbers.errors import Mismatch, NoBar, NoMeeting
-from metnumbers.meetings import least_meeting
-from metnumbers.parties import are_persons, persons
-from metnumbers.scales import Scales
+from metnumbers.parties import are_persons, need_party, persons
+from metnumbers.parts import mask_of, persons_in
+from metnumbers.scales import scales_of
+from metnumbers.ways import Ways
 
 
-def is_bar(party, thing):
-    """Tell whether any object is a bar of a party."""
-    many = persons(party)
+def are_sides(thing, many):
+    """Tell whether any object is a tuple of two ascending tuples of different ones of so many persons, none in both."""
     if not isinstance(thing, tuple) or len(thing) != 2:
         return False
     first, second = thing
     if not are_persons(first, many) or not are_persons(second, many):
         return False
     return not any([person in first for person in second])
+
+
+def is_bar(party, thing):
+    """Tell whether any object is a bar of a party."""
+    return are_sides(thing, persons(party))
 
 
 def need_bar(party, bar):
@@ -27,34 +32,43 @@ def slack(party, bar):
     """Return the slack of a bar."""
     need_bar(party, bar)
     first, second = bar
-    return Scales(party).slack(first, second)
+    return scales_of(party).slack(mask_of(first), mask_of(second))
 
 
 def odd_lots(party, bar):
     """Return the ascending list of the odd lots of a bar, each an ascending tuple."""
     need_bar(party, bar)
     first, second = bar
-    return Scales(party).odd_lots(first, second)
+    return [persons_in(lot) for lot in scales_of(party).odd_lots(mask_of(first), mask_of(second))]
+
+
+def bars_on(scales, thing):
+    """Tell whether any object is a bar with a slack below 0 on the scales of a party."""
+    if not are_sides(thing, len(scales.needs)):
+        return False
+    first, second = thing
+    return scales.slack(mask_of(first), mask_of(second)) < 0
 
 
 def bars_it(party, thing):
     """Tell whether any object is a bar that bars a party."""
-    return is_bar(party, thing) and slack(party, thing) < 0
+    need_party(party)
+    return bars_on(scales_of(party), thing)
 
 
 def bar_of(party):
     """Return a bar that bars a party, or None if it has a meeting."""
+    need_party(party)
     # A meeting is found much faster than it is seen that there is no bar.
-    if least_meeting(party) is not None:
-        return None
-    return Scales(party).barring()
+    return None if Ways(party).has_any() else scales_of(party).barring()
 
 
-def need_meeting(party):
-    """Raise NoParty if this is no party, then NoMeeting, with a bar, if it has no meeting."""
-    bar = bar_of(party)
-    if bar is not None:
-        raise NoMeeting(bar)
+def met_or_barred(party):
+    """Return the least meeting of a right party, or raise NoMeeting, with a bar, if it has none."""
+    meeting = Ways(party).least()
+    if meeting is None:
+        raise NoMeeting(scales_of(party).barring())
+    return meeting
 
 
 def row(numbers, k):

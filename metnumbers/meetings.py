@@ -1,7 +1,7 @@
 """The meetings of a party: which objects they are, the least one, all of them, how many."""
 
 from metnumbers.errors import NoFit
-from metnumbers.parties import are_pairs, count_with, need_few, need_pair, persons
+from metnumbers.parties import are_pairs, need_few, need_pair, need_party, persons
 from metnumbers.ways import Ways
 
 
@@ -12,7 +12,11 @@ def is_meeting(party, thing):
     numbers, met, apart = party
     if not all([pair in thing for pair in met]) or any([pair in thing for pair in apart]):
         return False
-    return all([number is None or count_with(thing, person) == number for person, number in enumerate(numbers)])
+    counts = [0] * len(numbers)
+    for pair in thing:
+        for person in pair:
+            counts[person] += 1
+    return all([number is None or count == number for number, count in zip(numbers, counts)])
 
 
 def need_fit(party, meeting):
@@ -23,15 +27,16 @@ def need_fit(party, meeting):
 
 def meetings(party):
     """Generate all meetings of a party, ascending."""
+    need_party(party)
     ways = Ways(party)
-    yield from ways.going_on(0, ways.numbers, ())
+    if ways.has_any():
+        yield from ways.going_on(0, ways.start, ())
 
 
 def least_meeting(party):
     """Return the least meeting of a party, or None if there is none."""
-    for meeting in meetings(party):
-        return meeting
-    return None
+    need_party(party)
+    return Ways(party).least()
 
 
 def how_many(party):

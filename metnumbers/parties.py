@@ -42,6 +42,9 @@ def is_pair(thing, many):
 
 def are_pairs(thing, many):
     """Tell whether any object is an ascending tuple of different pairs of so many persons."""
+    # Most parties know little, and they are looked at often.
+    if thing == ():
+        return True
     if not isinstance(thing, tuple):
         return False
     # Only pairs can be compared, so all have to be pairs before their order is looked at.
@@ -102,24 +105,32 @@ def is_free(party, pair):
     return pair not in party[1] and pair not in party[2]
 
 
+def free_of(party):
+    """Return the ascending list of the free pairs of a right party."""
+    known = set(party[1] + party[2])
+    return [pair for pair in all_pairs(len(party[0])) if pair not in known]
+
+
 def free_pairs(party):
     """Return the ascending list of the free pairs of a party."""
-    return [pair for pair in all_pairs(persons(party)) if is_free(party, pair)]
+    need_party(party)
+    return free_of(party)
 
 
-def count_with(pairs, person):
-    """Return in how many pairs a person is."""
-    return len([pair for pair in pairs if person in pair])
+def needs_of(party):
+    """Return the list of the needs of a right party's persons, None for one who told nothing."""
+    found = list(party[0])
+    for pair in party[1]:
+        for person in pair:
+            if found[person] is not None:
+                found[person] -= 1
+    return found
 
 
 def needs(party):
     """Return the list of the needs of a party's persons, None for one who told nothing."""
     need_party(party)
-    numbers, met, _ = party
-    return [
-        None if number is None else number - count_with(met, person)
-        for person, number in enumerate(numbers)
-    ]
+    return needs_of(party)
 
 
 def put_in(pairs, pair):

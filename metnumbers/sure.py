@@ -1,89 +1,96 @@
 """Which pairs of a party surely met, which surely did not, and papers that show it."""
 
-from metnumbers.bars import bar_of, bars_it, need_meeting
-from metnumbers.meetings import is_meeting, least_meeting
-from metnumbers.parties import all_pairs, need_pair, persons, with_apart, with_met
+from metnumbers.bars import bars_on, met_or_barred
+from metnumbers.meetings import is_meeting, meetings
+from metnumbers.parties import all_pairs, free_of, need_pair, need_party, put_in
+from metnumbers.scales import scales_of
 from metnumbers.ways import Ways
 
 
-def state_in(having, total):
-    """Return the state of a pair that so many of all meetings have."""
-    if having == 0:
-        return "apart"
-    if having == total:
-        return "met"
-    return "open"
+def party_otherwise(party, meeting, pair):
+    """Return the party in which a free pair is known to be otherwise than in a meeting."""
+    numbers, met, apart = party
+    if pair in meeting:
+        return numbers, met, put_in(apart, pair)
+    return numbers, put_in(met, pair), apart
+
+
+def meeting_otherwise(party, meeting, pair):
+    """Return the least meeting in which a free pair is otherwise than in a meeting, or None if there is none."""
+    return Ways(party_otherwise(party, meeting, pair)).least()
+
+
+def difference_of(one, other):
+    """Return the list of the pairs that are in just one of two meetings."""
+    return [pair for pair in one if pair not in other] + [pair for pair in other if pair not in one]
+
+
+def open_among(party, meeting):
+    """Return the list of the pairs that are not in all meetings of a party alike, one of which is given."""
+    found = []
+    for pair in free_of(party):
+        if pair not in found:
+            other = meeting_otherwise(party, meeting, pair)
+            if other is not None:
+                # What the other meeting shows of later pairs needs no meeting of its own.
+                found += [differing for differing in difference_of(meeting, other) if differing not in found]
+    return found
+
+
+def state_beside(meeting, open_ones, pair):
+    """Return the state of a pair of a party with a meeting, of whose pairs some are open."""
+    if pair in open_ones:
+        return "open"
+    return "met" if pair in meeting else "apart"
 
 
 def states(party):
     """Return the dict from all pairs of a party's persons, ascending, to their states."""
-    need_meeting(party)
-    ways = Ways(party)
-    total = ways.total()
-    having = ways.having()
-    return {pair: state_in(having.get(pair, 0), total) for pair in all_pairs(persons(party))}
+    need_party(party)
+    meeting = met_or_barred(party)
+    open_ones = open_among(party, meeting)
+    return {pair: state_beside(meeting, open_ones, pair) for pair in all_pairs(len(party[0]))}
 
 
 def state_of(party, pair):
     """Return the state of a pair: met, apart or open."""
     need_pair(party, pair)
-    return states(party)[pair]
-
-
-def party_if_met(party, pair):
-    """Return the party with a pair met, or None if it is known to be apart."""
-    _, met, apart = party
-    if pair in apart:
-        return None
-    return party if pair in met else with_met(party, pair)
-
-
-def party_if_apart(party, pair):
-    """Return the party with a pair apart, or None if it is known to be met."""
-    _, met, apart = party
-    if pair in met:
-        return None
-    return party if pair in apart else with_apart(party, pair)
-
-
-def why_not(party):
-    """Return what shows that there is no meeting: a bar that bars the party, None where there is no party."""
-    if party is None:
-        return None
-    return bar_of(party)
-
-
-def shows_why_not(party, thing):
-    """Tell whether any object is what shows that there is no meeting."""
-    if party is None:
-        return thing is None
-    return bars_it(party, thing)
+    meeting = met_or_barred(party)
+    known = pair in party[1] or pair in party[2]
+    if not known and meeting_otherwise(party, meeting, pair) is not None:
+        return "open"
+    return "met" if pair in meeting else "apart"
 
 
 def paper_of(party, pair):
     """Return a paper for a pair."""
-    state = state_of(party, pair)
-    if state == "met":
-        return "met", why_not(party_if_apart(party, pair))
-    if state == "apart":
-        return "apart", why_not(party_if_met(party, pair))
-    return "open", least_meeting(with_met(party, pair)), least_meeting(with_apart(party, pair))
+    need_pair(party, pair)
+    meeting = met_or_barred(party)
+    if pair in party[1]:
+        return "met", None
+    if pair in party[2]:
+        return "apart", None
+    otherwise = party_otherwise(party, meeting, pair)
+    other = Ways(otherwise).least()
+    if pair in meeting:
+        return ("met", scales_of(otherwise).barring()) if other is None else ("open", meeting, other)
+    return ("apart", scales_of(otherwise).barring()) if other is None else ("open", other, meeting)
 
 
-def shows_sure(party, pair, word, thing):
-    """Tell whether any two objects are the word and the other thing of a paper for a pair that is surely so."""
-    if word == "met":
-        return shows_why_not(party_if_apart(party, pair), thing)
-    if word == "apart":
-        return shows_why_not(party_if_met(party, pair), thing)
-    return False
+def shows_sure(party, pair, is_met, thing):
+    """Tell whether any object shows that a pair is met, or apart: None, or a bar of the party with it otherwise."""
+    numbers, met, apart = party
+    if pair in (met if is_met else apart):
+        return thing is None
+    if pair in (apart if is_met else met):
+        return bars_on(scales_of(party), thing)
+    other = (numbers, met, put_in(apart, pair)) if is_met else (numbers, put_in(met, pair), apart)
+    return bars_on(scales_of(other), thing)
 
 
-def shows_open(party, pair, word, one, other):
-    """Tell whether any three objects are the word and the meetings of a paper for a pair that is open."""
-    if word != "open" or not is_meeting(party, one) or not is_meeting(party, other):
-        return False
-    return pair in one and pair not in other
+def shows_open(party, pair, one, other):
+    """Tell whether any two objects are meetings, one with a pair and one without it."""
+    return is_meeting(party, one) and is_meeting(party, other) and pair in one and pair not in other
 
 
 def shows_state(party, pair, thing):
@@ -91,19 +98,19 @@ def shows_state(party, pair, thing):
     need_pair(party, pair)
     if not isinstance(thing, tuple):
         return False
-    if len(thing) == 2:
-        return shows_sure(party, pair, thing[0], thing[1])
-    if len(thing) == 3:
-        return shows_open(party, pair, thing[0], thing[1], thing[2])
-    return False
+    if len(thing) == 2 and thing[0] in ("met", "apart"):
+        return shows_sure(party, pair, thing[0] == "met", thing[1])
+    return len(thing) == 3 and thing[0] == "open" and shows_open(party, pair, thing[1], thing[2])
 
 
 def only_meeting(party):
     """Return the meeting of a party that has just one, otherwise None."""
-    need_meeting(party)
-    if Ways(party).total() > 1:
-        return None
-    return least_meeting(party)
+    need_party(party)
+    least = met_or_barred(party)
+    for meeting in meetings(party):
+        if meeting != least:
+            return None
+    return least
 
 
 def is_settled(party):

@@ -122,6 +122,13 @@ class ImportsTest(unittest.TestCase):
                     for name in node.names:
                         self.assertIn(name.name, there.get(node.module, []), path.name)
 
+    def test_each_is_used(self):
+        for path, tree in trees():
+            used = {node.id for node in ast.walk(tree) if isinstance(node, ast.Name)}
+            for node in ast.walk(tree):
+                if isinstance(node, ast.ImportFrom):
+                    self.assertEqual({name.name for name in node.names} - used, set(), path.name)
+
     def test_none_in_a_ring(self):
         ahead = {"metnumbers." + path.stem: self.imported(tree) for path, tree in trees()}
         while ahead:

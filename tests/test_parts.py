@@ -4,7 +4,7 @@ import itertools
 import random
 import unittest
 
-from metnumbers.parts import parts_of
+from metnumbers.parts import how_many_in, links_of, mask_of, part_from, parts_of, persons_in
 from tests.plain import hanging, pairs_of
 
 
@@ -26,6 +26,19 @@ class PartsTest(unittest.TestCase):
                 pairs = [pair for pair in pairs_of(many) if draw.random() < often]
                 members = [person for person in range(many) if draw.random() < 0.8]
                 self.assertEqual(parts_of(members, pairs), hanging(members, pairs))
+
+    def test_masks(self):
+        for mask in range(256):
+            persons = persons_in(mask)
+            self.assertEqual(persons, tuple(person for person in range(8) if mask >> person & 1))
+            self.assertEqual(mask_of(persons), mask)
+            self.assertEqual(how_many_in(mask), len(persons))
+
+    def test_links(self):
+        self.assertEqual(links_of(3, []), [0, 0, 0])
+        self.assertEqual(links_of(4, [(0, 1), (1, 3)]), [0b10, 0b1001, 0, 0b10])
+        self.assertEqual(part_from(0b1, 0b1011, links_of(4, [(0, 1), (1, 3)])), 0b1011)
+        self.assertEqual(part_from(0b1, 0b1001, links_of(4, [(0, 1), (1, 3)])), 0b1)
 
 
 if __name__ == "__main__":
