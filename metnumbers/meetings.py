@@ -1,15 +1,15 @@
 """The meetings of a party: which objects they are, the least one, all of them, how many."""
 
 from metnumbers.errors import NoFit
-from metnumbers.parties import are_pairs, need_few, need_pair, need_party, persons
+from metnumbers.parties import are_pairs, need_few, need_pair, need_party
 from metnumbers.ways import Ways
 
 
-def is_meeting(party, thing):
-    """Tell whether any object is a meeting of a party."""
-    if not are_pairs(thing, persons(party)):
-        return False
+def fits(party, thing):
+    """Tell whether any object is a meeting of a right party."""
     numbers, met, apart = party
+    if not are_pairs(thing, len(numbers)):
+        return False
     if not all([pair in thing for pair in met]) or any([pair in thing for pair in apart]):
         return False
     counts = [0] * len(numbers)
@@ -19,10 +19,21 @@ def is_meeting(party, thing):
     return all([number is None or count == number for number, count in zip(numbers, counts)])
 
 
+def is_meeting(party, thing):
+    """Tell whether any object is a meeting of a party."""
+    need_party(party)
+    return fits(party, thing)
+
+
 def need_fit(party, meeting):
     """Raise NoParty if this is no party, then NoFit if any object is no meeting of it."""
     if not is_meeting(party, meeting):
         raise NoFit("this is no meeting of the party")
+
+
+def difference_of(meeting, other):
+    """Return the ascending list of the pairs that are in just one of two right meetings."""
+    return sorted([pair for pair in meeting if pair not in other] + [pair for pair in other if pair not in meeting])
 
 
 def meetings(party):

@@ -150,18 +150,28 @@ def need_free(party, pair):
         raise Mismatch("this pair is not free")
 
 
+def made_met(party, pair):
+    """Return a right party with a free pair put into met."""
+    numbers, met, apart = party
+    return numbers, put_in(met, pair), apart
+
+
+def made_apart(party, pair):
+    """Return a right party with a free pair put into apart."""
+    numbers, met, apart = party
+    return numbers, met, put_in(apart, pair)
+
+
 def with_met(party, pair):
     """Return the party with a free pair put into met."""
     need_free(party, pair)
-    numbers, met, apart = party
-    return numbers, put_in(met, pair), apart
+    return made_met(party, pair)
 
 
 def with_apart(party, pair):
     """Return the party with a free pair put into apart."""
     need_free(party, pair)
-    numbers, met, apart = party
-    return numbers, met, put_in(apart, pair)
+    return made_apart(party, pair)
 
 
 def with_free(party, pair):
@@ -173,13 +183,18 @@ def with_free(party, pair):
     return numbers, taken_out(met, pair), taken_out(apart, pair)
 
 
+def told_by(party, person, number):
+    """Return a right party in which a person tells another right number."""
+    numbers, met, apart = party
+    return numbers[:person] + (number,) + numbers[person + 1:], met, apart
+
+
 def told(party, person, number):
     """Return the party in which a person tells another number, or by None nothing."""
     need_person(party, person)
     if not can_be_told(number):
         raise NoParty("this can't be a number of a party")
-    numbers, met, apart = party
-    return numbers[:person] + (number,) + numbers[person + 1:], met, apart
+    return told_by(party, person, number)
 
 
 def pairs_across(many, start):

@@ -1,28 +1,20 @@
 """Which pairs of a party surely met, which surely did not, and papers that show it."""
 
 from metnumbers.bars import bars_on, met_or_barred
-from metnumbers.meetings import is_meeting, meetings
-from metnumbers.parties import all_pairs, free_of, need_pair, need_party, put_in
+from metnumbers.meetings import difference_of, fits, meetings
+from metnumbers.parties import all_pairs, free_of, made_apart, made_met, need_pair, need_party
 from metnumbers.scales import scales_of
 from metnumbers.ways import Ways
 
 
 def party_otherwise(party, meeting, pair):
     """Return the party in which a free pair is known to be otherwise than in a meeting."""
-    numbers, met, apart = party
-    if pair in meeting:
-        return numbers, met, put_in(apart, pair)
-    return numbers, put_in(met, pair), apart
+    return made_apart(party, pair) if pair in meeting else made_met(party, pair)
 
 
 def meeting_otherwise(party, meeting, pair):
     """Return the least meeting in which a free pair is otherwise than in a meeting, or None if there is none."""
     return Ways(party_otherwise(party, meeting, pair)).least()
-
-
-def difference_of(one, other):
-    """Return the list of the pairs that are in just one of two meetings."""
-    return [pair for pair in one if pair not in other] + [pair for pair in other if pair not in one]
 
 
 def open_among(party, meeting):
@@ -79,18 +71,18 @@ def paper_of(party, pair):
 
 def shows_sure(party, pair, is_met, thing):
     """Tell whether any object shows that a pair is met, or apart: None, or a bar of the party with it otherwise."""
-    numbers, met, apart = party
+    _, met, apart = party
     if pair in (met if is_met else apart):
         return thing is None
     if pair in (apart if is_met else met):
         return bars_on(scales_of(party), thing)
-    other = (numbers, met, put_in(apart, pair)) if is_met else (numbers, put_in(met, pair), apart)
-    return bars_on(scales_of(other), thing)
+    otherwise = made_apart(party, pair) if is_met else made_met(party, pair)
+    return bars_on(scales_of(otherwise), thing)
 
 
 def shows_open(party, pair, one, other):
     """Tell whether any two objects are meetings, one with a pair and one without it."""
-    return is_meeting(party, one) and is_meeting(party, other) and pair in one and pair not in other
+    return fits(party, one) and fits(party, other) and pair in one and pair not in other
 
 
 def shows_state(party, pair, thing):

@@ -10,13 +10,13 @@ SECONDS = 10
 
 
 class Case(unittest.TestCase):
-    def assert_refused(self, error, function, *things):
+    def assert_refused(self, error, function, *things, **named):
         """Assert that just this error is raised, and return it; what was passed stays as it was."""
-        ahead = copy.deepcopy(things)
+        ahead = copy.deepcopy((things, named))
         with self.assertRaises(error) as caught:
-            function(*things)
+            function(*things, **named)
         self.assertIs(type(caught.exception), error)
-        self.assertEqual(things, ahead)
+        self.assertEqual((things, named), ahead)
         return caught.exception
 
     def assert_told(self, right, function, *things):

@@ -51,6 +51,34 @@ EXAMPLES = {
 >>> [surely_one(ring), one_paper(pairs), shows_one(ring, [((0,), ((), (0,))), ((0, 1), ((), (2,))), ((0, 2), ((), (1,)))])]
 [True, None, True]
 ''',
+    "exchanges": '''
+>>> from metnumbers.exchanges import difference, exchanged, is_exchange, shows_way, switch_way, switches, way
+>>> pairs, one, other = ((1, 1, 1, 1), (), ()), ((0, 1), (2, 3)), ((0, 2), (1, 3))
+>>> [is_exchange(pairs, one, (0, 1, 3, 2, 0)), exchanged(pairs, one, (0, 1, 3, 2, 0)), difference(pairs, one, other), len(way(pairs, one, other))]
+[True, ((0, 2), (1, 3)), [(0, 1), (0, 2), (1, 3), (2, 3)], 1]
+>>> [switches(pairs, one), switch_way(pairs, one, other), shows_way(pairs, one, one, []), shows_way(pairs, one, other, [])]
+[[((0, 2), (1, 3)), ((0, 3), (1, 2))], [((0, 1), (2, 3)), ((0, 2), (1, 3))], True, False]
+>>> [is_exchange(((1, None, 1), (), ()), ((0, 2),), (1, 0, 2, 1)), way(((None, None), (), ()), (), ((0, 1),)) in ([(0, 1)], [(1, 0)])]
+[True, True]
+''',
+    "settle": '''
+>>> from metnumbers.settle import best_question, fewest_questions, other_meeting, plan, settling, shows_plan, told_as
+>>> pairs, one = ((1, 1, 1, 1), (), ()), ((0, 1), (2, 3))
+>>> [told_as(pairs, one, ((0, 2), (2, 3))), other_meeting(pairs, one, ()), other_meeting(pairs, one, ((0, 2),)), other_meeting(pairs, one, ((0, 2),), about=(2, 3))]
+[((1, 1, 1, 1), ((2, 3),), ((0, 2),)), ((0, 2), (1, 3)), ((0, 3), (1, 2)), ((0, 3), (1, 2))]
+>>> [settling(pairs, one), settling(pairs, one, about=(0, 1)), settling(((None, None), (), ()), (), about=(0, 1)), best_question(pairs), fewest_questions(pairs)]
+[((0, 1),), ((2, 3),), None, ((0, 1), 1, 2), 2]
+>>> shows_plan(pairs, ("ask", (0, 1), ("is", one), ("ask", (0, 2), ("is", ((0, 2), (1, 3))), ("is", ((0, 3), (1, 2))))))
+True
+''',
+    "wrongs": '''
+>>> from metnumbers.wrongs import excused, excuses, groups, is_excuse, least_excuse, right_numbers, shows_excuse
+>>> party = ((3, 1, 1, 0), (), ())
+>>> [list(groups(((1, None, 2), (), ()))), excused(party, (0,)), is_excuse(party, (1, 2)), least_excuse(party)[0], excuses(party)]
+[[(), (0,), (2,), (0, 2)], ((None, 1, 1, 0), (), ()), False, (0,), [(0,), (3,)]]
+>>> [shows_excuse(party, ((0,), ((1, 2),), [((), ((), (0,)))])), right_numbers(party, 0), right_numbers(party, 3)]
+[True, [0, 2], [1]]
+''',
 }
 README = pathlib.Path(__file__).parent.parent / "README.md"
 

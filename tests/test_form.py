@@ -47,6 +47,9 @@ INTERFACE = {
     "pieces": [
         "partings", "cut", "pieces", "surely_one", "one_paper", "shows_one", "parted_meeting", "joined_meeting",
     ],
+    "exchanges": ["is_exchange", "exchanged", "difference", "way", "shows_way", "switches", "switch_way"],
+    "settle": ["told_as", "other_meeting", "settling", "best_question", "plan", "fewest_questions", "shows_plan"],
+    "wrongs": ["groups", "excused", "is_excuse", "least_excuse", "shows_excuse", "excuses", "right_numbers"],
 }
 
 
