@@ -1,7 +1,7 @@
 """The bars of a party: which objects they are, their slack, and those that show that there is no meeting."""
 
 from metnumbers.errors import Mismatch, NoBar, NoMeeting
-from metnumbers.parties import are_persons, need_party, persons
+from metnumbers.parties import are_persons, need_few, need_party, persons
 from metnumbers.parts import mask_of, persons_in
 from metnumbers.scales import scales_of
 from metnumbers.ways import Ways
@@ -69,6 +69,12 @@ def met_or_barred(party):
     if meeting is None:
         raise NoMeeting(scales_of(party).barring())
     return meeting
+
+
+def need_few_with_meeting(party):
+    """Raise NoParty if this is no party, then TooMany for too many persons, then NoMeeting if it has no meeting."""
+    need_few(party)
+    met_or_barred(party)
 
 
 def row(numbers, k):

@@ -2,8 +2,8 @@
 
 from metnumbers.errors import Mismatch, TooMany
 from metnumbers.meetings import difference_of, fits, need_fit
-from metnumbers.parties import MOST_COUNTED, free_of, is_person
-from metnumbers.trails import Trails, pair_of, pairs_along
+from metnumbers.parties import MOST_COUNTED, free_of, is_person, pair_of
+from metnumbers.trails import Trails, pairs_along
 
 
 def is_walk(thing, many):
@@ -25,8 +25,8 @@ def is_step(party, meeting, thing):
     free = free_of(party)
     if len(pairs) > len(free) or len(set(pairs)) < len(pairs) or not all([pair in free for pair in pairs]):
         return False
-    sorts = [pair in meeting for pair in pairs]
-    if any([sort == next_sort for sort, next_sort in zip(sorts, sorts[1:])]):
+    kinds = [pair in meeting for pair in pairs]
+    if any([kind == next_kind for kind, next_kind in zip(kinds, kinds[1:])]):
         return False
     return fits(party, led_to(meeting, pairs))
 

@@ -1,6 +1,7 @@
 """Which objects are integers, and which are names."""
 
 LETTERS = "abcdefghijklmnopqrstuvwxyz"
+DIGITS = "0123456789"
 SIGNS = "abcdefghijklmnopqrstuvwxyz0123456789"
 LONGEST_NAME = 8
 

@@ -32,6 +32,11 @@ def are_persons(thing, many):
     return all([one < other for one, other in zip(thing, thing[1:])])
 
 
+def pair_of(one, other):
+    """Return the pair of two persons, which may be told either way round."""
+    return (one, other) if one < other else (other, one)
+
+
 def is_pair(thing, many):
     """Tell whether any object is a pair of so many persons."""
     if not isinstance(thing, tuple) or len(thing) != 2:
@@ -174,13 +179,18 @@ def with_apart(party, pair):
     return made_apart(party, pair)
 
 
+def made_free(party, pair):
+    """Return a right party with a pair taken out of met or of apart."""
+    numbers, met, apart = party
+    return numbers, taken_out(met, pair), taken_out(apart, pair)
+
+
 def with_free(party, pair):
     """Return the party with a pair taken out of met or of apart."""
     need_pair(party, pair)
     if is_free(party, pair):
         raise Mismatch("this pair is free")
-    numbers, met, apart = party
-    return numbers, taken_out(met, pair), taken_out(apart, pair)
+    return made_free(party, pair)
 
 
 def told_by(party, person, number):

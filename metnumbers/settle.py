@@ -1,10 +1,10 @@
 """What would settle what is open: facts of a meeting, and questions one after the other."""
 
-from metnumbers.bars import met_or_barred
+from metnumbers.bars import need_few_with_meeting
 from metnumbers.choices import choices
 from metnumbers.errors import Mismatch, NoPair, TooMany
 from metnumbers.meetings import difference_of, fits, meetings, need_fit
-from metnumbers.parties import are_pairs, free_of, is_free, is_pair, made_apart, made_met, need_few, need_party
+from metnumbers.parties import are_pairs, free_of, is_free, is_pair, made_apart, made_met, need_party
 from metnumbers.plans import Plans
 from metnumbers.sure import meeting_otherwise
 from metnumbers.ways import Ways
@@ -82,12 +82,6 @@ def settling(party, meeting, *, about=None):
         if all([mask & told_mask for mask in masks]):
             return facts
     return None
-
-
-def need_few_with_meeting(party):
-    """Raise NoParty if this is no party, then TooMany for too many persons, then NoMeeting if it has no meeting."""
-    need_few(party)
-    met_or_barred(party)
 
 
 def best_question(party):

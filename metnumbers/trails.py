@@ -1,9 +1,6 @@
 """The fewest trails through the pairs in which two meetings differ (point 8)."""
 
-
-def pair_of(one, other):
-    """Return the pair of two persons, which may be told either way round."""
-    return (one, other) if one < other else (other, one)
+from metnumbers.parties import pair_of
 
 
 def pairs_along(trail):
@@ -12,14 +9,14 @@ def pairs_along(trail):
 
 
 def is_ring(trail):
-    """Tell whether a trail ends where it began, with a pair of the other sort than the first one."""
+    """Tell whether a trail ends where it began, with a pair of the other kind than the first one."""
     return trail[0] == trail[-1] and len(trail) % 2 == 1
 
 
 class Trails:
-    """The pairs in which a meeting differs from another one, of two sorts: those in the meeting and those not in it.
+    """The pairs in which a meeting differs from another one, of two kinds: those in the meeting and those not in it.
 
-    A trail has pairs of both sorts by turns. Who told a number is in as many pairs of the one sort as of the other, so
+    A trail has pairs of both kinds by turns. Who told a number is in as many pairs of the one kind as of the other, so
     that a trail can always go on from it, or has come back to it as a ring.
     """
 
@@ -35,42 +32,42 @@ class Trails:
         trails = []
         start = self.end_to_be()
         while start is not None:
-            person, sort = start
-            trails.append(self.trail_from(person, sort))
+            person, kind = start
+            trails.append(self.trail_from(person, kind))
             start = self.end_to_be()
-        # Everybody is in as many pairs of both sorts now, so all that is left are rings.
+        # Everybody is in as many pairs of both kinds now, so all that is left are rings.
         while self.unused[True]:
             ring = self.trail_from(self.unused[True][0][0], True)
             trails = self.put_together(trails, ring)
         return trails
 
     def end_to_be(self):
-        """Return a person who is in more pairs of one sort than of the other, and this sort, or None."""
-        for sort in (True, False):
-            ones = [person for pair in self.unused[sort] for person in pair]
-            others = [person for pair in self.unused[not sort] for person in pair]
+        """Return a person who is in more pairs of one kind than of the other, and this kind, or None."""
+        for kind in (True, False):
+            ones = [person for pair in self.unused[kind] for person in pair]
+            others = [person for pair in self.unused[not kind] for person in pair]
             for person in ones:
                 if ones.count(person) > others.count(person):
-                    return person, sort
+                    return person, kind
         return None
 
-    def next_pair(self, person, sort):
-        """Return a pair of a sort that a person is in, or None."""
-        for pair in self.unused[sort]:
+    def next_pair(self, person, kind):
+        """Return a pair of a kind that a person is in, or None."""
+        for pair in self.unused[kind]:
             if person in pair:
                 return pair
         return None
 
-    def trail_from(self, person, sort):
-        """Return a trail from a person, with a pair of a sort first, as long as it goes on; use its pairs."""
+    def trail_from(self, person, kind):
+        """Return a trail from a person, with a pair of a kind first, as long as it goes on; use its pairs."""
         trail = [person]
-        pair = self.next_pair(person, sort)
+        pair = self.next_pair(person, kind)
         while pair is not None:
-            self.unused[sort].remove(pair)
+            self.unused[kind].remove(pair)
             person = sum(pair) - person
             trail.append(person)
-            sort = not sort
-            pair = self.next_pair(person, sort)
+            kind = not kind
+            pair = self.next_pair(person, kind)
         return trail
 
     def put_together(self, trails, ring):
@@ -87,8 +84,8 @@ class Trails:
                 apart.append(trail)
         return apart + [grown]
 
-    def sort_at(self, trail, at):
-        """Return the sort of the pair that goes on from a place of a trail, or, at its end, that would do so."""
+    def kind_at(self, trail, at):
+        """Return the kind of the pair that goes on from a place of a trail, or, at its end, that would do so."""
         if at == len(trail) - 1:
             return pair_of(trail[at - 1], trail[at]) not in self.meeting
         return pair_of(trail[at], trail[at + 1]) in self.meeting
@@ -98,7 +95,7 @@ class Trails:
         at = trail.index(person)
         start = ring.index(person)
         turned = ring[start:-1] + ring[:start] + [person]
-        # The last pair of a ring is of the other sort than the first, so one of both ways round fits.
-        if self.sort_at(turned, 0) != self.sort_at(trail, at):
+        # The last pair of a ring is of the other kind than the first, so one of both ways round fits.
+        if self.kind_at(turned, 0) != self.kind_at(trail, at):
             turned.reverse()
         return trail[:at] + turned + trail[at + 1:]

@@ -38,7 +38,7 @@ class Ways:
     def rooms(self):
         """Return the list, for each place and the end, of how many pairs from there on each person is in."""
         found = [0]
-        for step in reversed(self.steps):
+        for step in reversed(list(self.steps)):
             found.append(found[-1] + step)
         found.reverse()
         return found

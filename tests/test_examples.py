@@ -79,6 +79,39 @@ True
 >>> [shows_excuse(party, ((0,), ((1, 2),), [((), ((), (0,)))])), right_numbers(party, 0), right_numbers(party, 3)]
 [True, [0, 2], [1]]
 ''',
+    "threes": '''
+>>> from metnumbers.threes import by_threes, chances, fewest_threes, most_threes, threes
+>>> party = ((2, 2, 2, 1, 1), (), ())
+>>> [by_threes(party), most_threes(party), fewest_threes(party), threes(party, ((0, 1), (0, 2), (1, 2), (3, 4)))]
+[{0: 6, 1: 1}, (1, ((0, 1), (0, 2), (1, 2), (3, 4))), (0, ((0, 1), (0, 2), (1, 3), (2, 4))), [(0, 1, 2)]]
+>>> [chances(party)[(0, 1)], chances(party)[(0, 3)], chances(party)[(3, 4)], chances(((2, 2, 2), (), ()))]
+[(5, 7), (2, 7), (1, 7), {(0, 1): (1, 1), (0, 2): (1, 1), (1, 2): (1, 1)}]
+''',
+    "book": '''
+>>> from metnumbers.book import Book
+>>> book = Book(("ann", "bob", "cy", "dee"), ((1, 1, 1, 1), (), ()))
+>>> [book.state("cy", "dee"), book.ask(), book.do(("met", "ann", "bob")), book.state("dee", "cy"), book.news()[1], len(book.news()), book["cy"]]
+['open', ('ann', 'bob', 1, 2), None, 'met', ('ann', 'cy', 'apart'), 6, 1]
+>>> [book.do(("in", "eve")), book.open_pairs(), book.do(("apart", "cy", "dee")), book.open_pairs(), book.news(), book.undo(), len(book.notes())]
+[None, [('cy', 'dee'), ('cy', 'eve'), ('dee', 'eve')], None, [], [('cy', 'dee', 'apart'), ('cy', 'eve', 'met'), ('dee', 'eve', 'met')], None, 2]
+>>> [book.undo(), book.names, book.redo(), book.names, book == Book(book.names, book.now), "eve" in book]
+[None, ('ann', 'bob', 'cy', 'dee'), None, ('ann', 'bob', 'cy', 'dee', 'eve'), True, True]
+''',
+    "texts": '''
+>>> from metnumbers.texts import format_bar, format_meeting, format_party, parse_bar, parse_meeting, parse_party
+>>> [parse_party("2 1 1 ?; met 0 1;apart 0 3"), format_party(((2, None), (), ((0, 1),))), parse_meeting("0 1,2 3"), format_meeting(())]
+[((2, 1, 1, None), ((0, 1),), ((0, 3),)), '2 ?; apart 0 1', ((0, 1), (2, 3)), '-']
+>>> [parse_bar("- / 0 2"), format_bar(((1,), ()))]
+[((), (0, 2)), '1 / -']
+''',
+    "console": '''
+>>> from metnumbers.console import Console
+>>> console = Console()
+>>> [console.execute(line) for line in ["open ann bob cy dee : 1 1 1 1", "ask", "state ann bob", "met ann bob", "news", "paper ann bob", "pairs"]]
+['ok', 'ann bob 1 2', 'open', 'ok', 'ann bob met, ann cy apart, ann dee apart, bob cy apart, bob dee apart, cy dee met', 'met : known', '-']
+>>> [console.execute(line) for line in ["undo", "count", "party", "fit : 1 1 2", "many : 1 1 1 1", "one : 2 2 2", "threes : 2 2 2 1 1", "excuse : 3 1 1 0"]]
+['ok', '0', '1 1 1 1', '0 2, 1 2', '3', 'yes', '0 1', '0']
+''',
 }
 README = pathlib.Path(__file__).parent.parent / "README.md"
 

@@ -50,6 +50,17 @@ INTERFACE = {
     "exchanges": ["is_exchange", "exchanged", "difference", "way", "shows_way", "switches", "switch_way"],
     "settle": ["told_as", "other_meeting", "settling", "best_question", "plan", "fewest_questions", "shows_plan"],
     "wrongs": ["groups", "excused", "is_excuse", "least_excuse", "shows_excuse", "excuses", "right_numbers"],
+    "threes": ["threes", "fewest_threes", "most_threes", "by_threes", "chances"],
+    "book": ["Book"],
+    "texts": ["parse_party", "parse_meeting", "parse_bar", "format_party", "format_meeting", "format_bar"],
+    "console": ["Console"],
+}
+METHODS = {
+    "Book": [
+        "__init__", "of", "names", "now", "__eq__", "__len__", "__contains__", "__getitem__", "state", "paper",
+        "open_pairs", "ask", "news", "do", "all_done", "undo", "redo", "notes",
+    ],
+    "Console": ["__init__", "execute"],
 }
 
 
@@ -199,6 +210,14 @@ class InterfaceTest(unittest.TestCase):
         for file, names in INTERFACE.items():
             for name in names:
                 self.assertIn(name, there[file])
+
+    def test_each_method_stands_in_its_class(self):
+        there = {
+            node.name: [part.name for part in node.body if isinstance(part, ast.FunctionDef)]
+            for _, tree in trees() for node in ast.walk(tree) if isinstance(node, ast.ClassDef)
+        }
+        for name, methods in METHODS.items():
+            self.assertEqual(set(methods) - set(there[name]), set())
 
 
 if __name__ == "__main__":
