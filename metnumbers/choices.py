@@ -6,4 +6,4 @@ def choices(things):
     found = [()]
     for thing in things:
         found = found + [chosen + (thing,) for chosen in found]
-    return sorted(found, key=lambda chosen: (len(chosen), chosen))
+    return sorted(sorted(found), key=len)

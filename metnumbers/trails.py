@@ -84,18 +84,17 @@ class Trails:
                 apart.append(trail)
         return apart + [grown]
 
-    def kind_at(self, trail, at):
-        """Return the kind of the pair that goes on from a place of a trail, or, at its end, that would do so."""
-        if at == len(trail) - 1:
-            return pair_of(trail[at - 1], trail[at]) not in self.meeting
+    def is_met_behind(self, trail, at):
+        """Tell whether the pair that goes on from a place of a trail, not the last one, is in the meeting."""
         return pair_of(trail[at], trail[at + 1]) in self.meeting
 
     def spliced(self, trail, ring, person):
         """Return a trail with a ring put into it at a person that is in both."""
+        # Whoever is last in a trail that is no ring is in no ring: the trail would have gone on along it.
         at = trail.index(person)
         start = ring.index(person)
         turned = ring[start:-1] + ring[:start] + [person]
         # The last pair of a ring is of the other kind than the first, so one of both ways round fits.
-        if self.kind_at(turned, 0) != self.kind_at(trail, at):
+        if self.is_met_behind(turned, 0) != self.is_met_behind(trail, at):
             turned.reverse()
         return trail[:at] + turned + trail[at + 1:]

@@ -189,6 +189,41 @@ class WayTest(Case):
         self.assertEqual(len(way(party, one, apart)), 2)
         self.assertTrue(shows_way(party, one, apart, way(party, one, apart)))
 
+    def test_rings_beside_open_ends(self):
+        # A ring between a ring and an exchange with open ends: all of it is one exchange.
+        one, other = ((0, 1), (1, 4), (2, 3), (3, 7), (4, 5)), ((0, 3), (1, 2), (1, 3), (4, 6), (4, 7))
+        party = ((1, 2, 1, 2, 2, None, None, 1), (), ())
+        self.assertEqual(len(way(party, one, other)), 1)
+        self.assertIs(shows_way(party, one, other, way(party, one, other)), True)
+
+    def test_drawn_differences(self):
+        draw, seen = random.Random(98), []
+        for _ in range(1500):
+            one = tuple(pair for pair in pairs_of(8) if draw.random() < draw.choice([0.3, 0.5, 0.7]))
+            other = self.drawn_other(draw, one)
+            count = [[sum(person in pair for pair in meeting) for person in range(8)] for meeting in (one, other)]
+            party = (tuple(a if a == b else None for a, b in zip(*count)), (), ())
+            thing = way(party, one, other)
+            self.assertIs(shows_way(party, one, other, thing), True, (party, one, other))
+            self.assert_ends_add_up(party, one, other, thing)
+            seen.append(len(thing))
+        self.assertGreater(min(seen.count(count) for count in range(4)), 10)
+
+    def drawn_other(self, draw, one):
+        """Return a meeting with some switches, and with some walks that end at other persons, done to another one."""
+        now = set(one)
+        for _ in range(draw.choice([0, 1, 2, 4, 6])):
+            ring = draw.sample(range(8), 4)
+            pairs = neighbours(tuple(ring + ring[:1]))
+            if [pair in now for pair in pairs] in ([True, False] * 2, [False, True] * 2):
+                now ^= set(pairs)
+        for _ in range(draw.choice([0, 0, 1, 2, 4, 6])):
+            walk = draw.sample(range(8), draw.choice([2, 3, 3, 4]))
+            kinds = [pair in now for pair in neighbours(walk)]
+            if all(kind != then for kind, then in zip(kinds, kinds[1:])):
+                now ^= set(neighbours(walk))
+        return tuple(sorted(now))
+
     def test_who_told_nothing_ends_ways(self):
         nobody = ((None,) * 8, (), ())
         star = tuple((0, person) for person in range(1, 8))
