@@ -1,5 +1,6 @@
 """The bars of parties: their slack by the words of point 5, and that a party has a meeting or is barred."""
 
+import random
 import unittest
 
 from metnumbers.bars import bar_of, bars_it, is_bar, odd_lots, rows, slack
@@ -148,6 +149,15 @@ class BarOfTest(Case):
             with self.within():
                 self.assert_one_of_both(party)
 
+    def test_drawn_numbers(self):
+        # Numbers that are drawn one by one need bars of both sides more often than those near to a meeting.
+        draw, barred = random.Random(49), 0
+        for many in (4, 5, 6, 6, 7):
+            for _ in range(250):
+                party = (tuple(draw.choice([None, None, *range(many)]) for _ in range(many)), (), ())
+                barred += self.assert_one_of_both(party)
+        self.assertGreater(barred, 400)
+
     def test_never_both(self):
         for party in drawn_parties(45, (5,), 40) + drawn_parties(46, (7,), 2):
             if least_meeting(party) is not None:
@@ -185,6 +195,7 @@ class BarOfTest(Case):
             self.assertTrue(is_bar(party, bar), party)
             self.assertTrue(bars_it(party, bar), party)
             self.assertLess(slack_of(party, bar), 0, party)
+        return bar is not None
 
 
 class RowsTest(Case):

@@ -118,8 +118,10 @@ class ColumnTest(TextCase):
             ]:
                 self.assert_wrong(kind, text, column)
         # The longest integer and the longest name are tokens, though none that can stand there.
-        self.assert_wrong("party", "1 1234567890", 3)
-        self.assert_wrong("party", "1 abcdefgh", 3)
+        for kind in PARSERS:
+            for right, wrong in [("1234567890", "12345678901"), ("abcdefgh", "abcdefghi"), ("0", "00"), ("a0", "0a")]:
+                self.assert_wrong(kind, "; " + right, 1)
+                self.assert_wrong(kind, "; " + wrong, 3)
 
     def test_all_tokens_are_read_first(self):
         for kind in PARSERS:
